@@ -1,7 +1,6 @@
 package larder_test
 
 import (
-	"strconv"
 	"strings"
 	"testing"
 
@@ -10,50 +9,16 @@ import (
 	"larder/larder"
 )
 
-// steps: calls of all kinds that write, more than a few segments' worth.
-func steps() []func(n *larder.Node) api.Errno {
-	var out []func(n *larder.Node) api.Errno
-	for i := range 40 {
-		key := "k" + strconv.Itoa(i%5)
-		out = append(out,
-			func(n *larder.Node) api.Errno { _, e := n.Put(key, strings.Repeat("v", 3*i)); return e },
-			func(n *larder.Node) api.Errno { return n.Accept(key, plain(2, i+1, strings.Repeat("w", 2*i))) },
-			func(n *larder.Node) api.Errno { return n.Hint(3, strconv.Itoa(i)) },
-		)
-		if i%3 == 0 {
-			out = append(out,
-				func(n *larder.Node) api.Errno { _, e := n.Delete(key); return e },
-				func(n *larder.Node) api.Errno { return n.Ack() },
-			)
-		}
-	}
-	return out
-}
-
-// history: what a node tells ahead of each step and behind the last.
-func history(t *testing.T) []string {
-	t.Helper()
-	_, n := fresh(t)
-	out := []string{told(n)}
-	for i, step := range steps() {
-		if e := step(n); e != api.OK {
-			t.Fatalf("step %d = %d", i, e)
-		}
-		out = append(out, told(n))
-	}
-	return out
-}
-
 // run does the steps on a disk till one fails, and checks that one and what comes behind it; false, if none fails.
-func run(t *testing.T, d *disk.Disk, want []string) bool {
+func run(t *testing.T, d *disk.Disk, every int, want []string) bool {
 	t.Helper()
-	n := open(t, d)
-	for i, step := range steps() {
+	n := openAs(t, d, api.MinSegment, every)
+	for i, s := range steps() {
 		refused, fulls := d.Refused(), d.Fulls()
-		e := step(n)
+		seq, e := s.do(n)
 		if d.Refused() == refused {
 			if e != api.OK || n.State().ReadOnly || told(n) != want[i+1] {
-				t.Fatalf("P11: step %d = %d, and the node tells %s, want %s", i, e, told(n), want[i+1])
+				t.Fatalf("P11: step %d, %s = %d, and the node tells %s, want %s", i, s.call, e, told(n), want[i+1])
 			}
 			continue
 		}
@@ -61,12 +26,12 @@ func run(t *testing.T, d *disk.Disk, want []string) bool {
 		if d.Fulls() > fulls {
 			is = api.ErrFull
 		}
-		if e != is || !n.State().ReadOnly {
-			t.Fatalf("P11: step %d = %d, want %d, State() = %+v", i, e, is, n.State())
+		if e != is || seq != 0 || !n.State().ReadOnly {
+			t.Fatalf("P11: step %d, %s = %d, %d, want %d, State() = %+v", i, s.call, seq, e, is, n.State())
 		}
 		after := told(n)
 		if after != want[i] && after != want[i+1] {
-			t.Fatalf("P11: behind step %d the node tells %s, want %s or %s", i, after, want[i], want[i+1])
+			t.Fatalf("P11: behind step %d, %s, the node tells %s, want %s or %s", i, s.call, after, want[i], want[i+1])
 		}
 		d.Fail(0, 0)
 		onlyRead(t, d, n)
@@ -90,6 +55,9 @@ func onlyRead(t *testing.T, d *disk.Disk, n *larder.Node) {
 		accept(t, n, "k1", plain(0, 1, "v"), api.ErrReadOnly)
 		hint(t, n, 0, "t", api.ErrReadOnly)
 		ack(t, n, api.ErrReadOnly)
+		if e := n.Sync(); e != api.ErrReadOnly {
+			t.Fatalf("P9: Sync() = %d, want ErrReadOnly", e)
+		}
 		if s, e := n.Put("", "v"); s != 0 || e != api.ErrKey {
 			t.Fatalf("P4: Put = %d, %d, want ErrKey", s, e)
 		}
@@ -103,18 +71,20 @@ func onlyRead(t *testing.T, d *disk.Disk, n *larder.Node) {
 }
 
 func TestNoFailure(t *testing.T) {
-	if run(t, disk.New(plenty), history(t)) {
-		t.Error("P11: a step fails on a good disk")
+	for _, every := range []int{0, 1, 3} {
+		if run(t, disk.New(plenty), every, history(t, steps())) {
+			t.Error("P11: a step fails on a good disk")
+		}
 	}
 }
 
 func TestEachCallFails(t *testing.T) {
-	want := history(t)
-	for _, part := range []int{0, 1, 7, 1000003} {
+	want := history(t, steps())
+	for every, part := range []int{0, 1, 7, 1000003} {
 		for k := 1; ; k++ {
 			d := disk.New(plenty)
 			d.Fail(k, part)
-			if !run(t, d, want) {
+			if !run(t, d, every, want) {
 				break
 			}
 		}
@@ -122,20 +92,22 @@ func TestEachCallFails(t *testing.T) {
 }
 
 func TestEachCallIsCut(t *testing.T) {
-	want := history(t)
-	for k := 1; ; k++ {
-		d := disk.New(plenty)
-		d.Cut(k)
-		if !run(t, d, want) {
-			break
+	want := history(t, steps())
+	for every := range 3 {
+		for k := 1; ; k++ {
+			d := disk.New(plenty)
+			d.Cut(k)
+			if !run(t, d, every, want) {
+				break
+			}
 		}
 	}
 }
 
 func TestFullDisk(t *testing.T) {
-	want := history(t)
+	want := history(t, steps())
 	full := 0
-	for room := 0; run(t, disk.New(room), want); room += 13 {
+	for room := 0; run(t, disk.New(room), room%3, want); room += 13 {
 		full++
 	}
 	if full == 0 {
@@ -147,12 +119,12 @@ func TestFullDisk(t *testing.T) {
 func TestNeed(t *testing.T) {
 	for room := api.Need; room < api.Need+1500; room += 11 {
 		d := disk.New(room)
-		n := open(t, d)
-		for i, step := range steps() {
+		n := openAs(t, d, api.MinSegment, room%3)
+		for i, s := range steps() {
 			left, fulls := room-d.Used(), d.Fulls()
-			step(n)
+			s.do(n)
 			if d.Fulls() > fulls && left >= api.Need {
-				t.Fatalf("P11: step %d finds the disk full with %d bytes left", i, left)
+				t.Fatalf("P11: step %d, %s, finds the disk full with %d bytes left", i, s.call, left)
 			}
 		}
 	}
@@ -178,25 +150,4 @@ func TestState(t *testing.T) {
 	state(api.State{Keys: 2, Hints: 1})
 	breakDisk(t, d, n)
 	state(api.State{ReadOnly: true, Keys: 2, Hints: 1})
-}
-
-// Behind a node's calls without a crash the next node holds what it told, whatever the Configs are.
-func TestOpenAgain(t *testing.T) {
-	d := disk.New(plenty)
-	want := history(t)
-	n := open(t, d)
-	for i, step := range steps() {
-		if e := step(n); e != api.OK {
-			t.Fatalf("step %d = %d", i, e)
-		}
-		if told(n) != want[i+1] {
-			t.Fatalf("step %d tells %s, want %s", i, told(n), want[i+1])
-		}
-		for _, segment := range []int{1000, 1777, 1000000} {
-			m, e := larder.Open(d.Copy(), api.Config{Node: self, Segment: segment, Sync: i % 100})
-			if e != api.OK || told(m) != told(n) {
-				t.Fatalf("P12: Open = %d, behind step %d", e, i)
-			}
-		}
-	}
 }

@@ -17,6 +17,8 @@ type Node struct {
 	log      *journal.Journal
 	held     *stock.Stock
 	given    int // the last of its numbers that was given, or may have been
+	every    int // after so many writes all is made safe; 0: by Sync alone
+	writes   int // since the last of these
 	readOnly bool
 }
 
@@ -31,7 +33,7 @@ func Open(d *disk.Disk, c api.Config) (*Node, api.Errno) {
 		return nil, errno(err)
 	}
 	// What an earlier node gave out of its lease cannot be known behind a crash, so all of it counts as given.
-	return &Node{self: c.Node, log: log, held: held, given: held.Leased()}, api.OK
+	return &Node{self: c.Node, log: log, held: held, given: held.Leased(), every: c.Sync}, api.OK
 }
 
 // Put writes a value (P4).
@@ -90,7 +92,7 @@ func (n *Node) Accept(key string, v api.Version) api.Errno {
 		v.Value = strings.Clone(v.Value)
 		has = stock.With(has, v)
 	}
-	return n.answer(n.write("accepting a version", stock.Holds{Key: strings.Clone(key), Versions: has}))
+	return n.answer(n.change("accepting a version", stock.Holds{Key: strings.Clone(key), Versions: has}))
 }
 
 // Get tells a key's versions (P7).
@@ -117,7 +119,7 @@ func (n *Node) Hint(to int, text string) api.Errno {
 		return api.ErrMany
 	}
 	h := api.Hint{To: to, Text: strings.Clone(text)}
-	return n.answer(n.write("keeping a hint", stock.Queued{Hint: h}))
+	return n.answer(n.change("keeping a hint", stock.Queued{Hint: h}))
 }
 
 // Hints tells the texts that are kept (P8).
@@ -131,11 +133,16 @@ func (n *Node) Ack() api.Errno {
 	case n.held.CountHints() == 0:
 		return api.ErrNone
 	}
-	return n.answer(n.write("letting go of a hint", stock.Acked{}))
+	return n.answer(n.change("letting go of a hint", stock.Acked{}))
 }
 
 // Sync makes all safe (P9).
-func (n *Node) Sync() api.Errno { return api.OK }
+func (n *Node) Sync() api.Errno {
+	if n.readOnly {
+		return api.ErrReadOnly
+	}
+	return n.answer(n.log.Sync())
+}
 
 // Merge does a step towards less room (P10).
 func (n *Node) Merge() (bool, api.Errno) { return false, api.OK }

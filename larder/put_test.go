@@ -187,3 +187,22 @@ func TestNumbersOverCrashes(t *testing.T) {
 		}
 	}
 }
+
+// The least that an Open and a Put may use up, when each time the power is cut in the Put or goes behind it.
+func TestNumbersOfFewWritesOverCrashes(t *testing.T) {
+	for cut := range 9 {
+		for pick := range 5 {
+			d := disk.New(plenty)
+			c := count{}
+			for i := range 30 {
+				n := openAs(t, d, 1000, i%3)
+				c.calls++
+				d.Cut(cut)
+				c.write(t, n, i)
+				d.Crash(pick, []int{pick * 3, pick * 3, pick * 3})
+				c.shown(open(t, d))
+				c.calls++
+			}
+		}
+	}
+}

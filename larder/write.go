@@ -13,7 +13,7 @@ import (
 func (n *Node) replace(key string, versions func(number int) []api.Version) (int, api.Errno) {
 	number, err := n.next()
 	if err == nil {
-		err = n.write("replacing a key's versions", stock.Holds{Key: strings.Clone(key), Versions: versions(number)})
+		err = n.change("replacing a key's versions", stock.Holds{Key: strings.Clone(key), Versions: versions(number)})
 	}
 	if err != nil {
 		return 0, n.answer(err)
@@ -38,6 +38,19 @@ func (n *Node) lease() error {
 	if err := n.write(what, stock.Lease{Upto: n.given + api.Lease}); err != nil {
 		return err
 	}
+	return fault.While(what, n.log.Sync())
+}
+
+// change writes a fact that was asked for, and makes all safe, if it is time.
+func (n *Node) change(what string, f stock.Fact) error {
+	if err := n.write(what, f); err != nil {
+		return err
+	}
+	n.writes++
+	if n.every == 0 || n.writes < n.every {
+		return nil
+	}
+	n.writes = 0
 	return fault.While(what, n.log.Sync())
 }
 
