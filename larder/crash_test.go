@@ -1,7 +1,6 @@
 package larder_test
 
 import (
-	"math/rand"
 	"slices"
 	"strconv"
 	"testing"
@@ -84,22 +83,21 @@ func behind(t *testing.T, d *disk.Disk, may []string, numbers count) {
 	}
 }
 
-// play does the steps till one fails, or all are done; it answers how many were done, and the numbers that were answered.
+// play does the steps till the disk fails in one, or all are done; it answers how many were done, and the numbers that were answered.
 func play(t *testing.T, n *larder.Node, d *disk.Disk, script []step) (int, count) {
 	t.Helper()
 	numbers := count{calls: 1}
 	for i, s := range script {
-		refused := d.Refused()
-		seq, e := s.do(n)
+		seq, e := attempt(t, d, n, s)
 		if s.numbered() {
 			numbers.number(t, seq, e)
 		}
 		numbers.shown(n)
-		if (e == api.ErrIO) != (d.Refused() > refused) || e != api.OK && e != api.ErrIO {
-			t.Fatalf("P11: step %d, %s = %d", i, s.call, e)
+		if isFailure(e) {
+			return i, numbers
 		}
 		if e != api.OK {
-			return i, numbers
+			t.Fatalf("step %d, %s = %d", i, s.call, e)
 		}
 	}
 	return len(script), numbers
@@ -183,125 +181,6 @@ func TestOpenIsCut(t *testing.T) {
 				eachCrash(was, 97, func(c *disk.Disk) { behind(t, c, may, numbers) })
 			}
 		})
-	}
-}
-
-// trial: a disk, its node, and what the document says of them.
-type trial struct {
-	d       *disk.Disk
-	n       *larder.Node
-	told    []string // behind so many writes, of those that are not lost
-	durable int      // so many of the writes
-	every   int
-	writes  int // since Open
-	crashed bool
-	numbers count
-}
-
-// open opens the node, and checks what it holds; false, if the power is cut in it.
-func (r *trial) open(t *testing.T, c api.Config) bool {
-	t.Helper()
-	n, e := larder.Open(r.d, c)
-	r.numbers.calls++
-	r.n, r.every, r.writes = n, c.Sync, 0
-	if n == nil {
-		if e != api.ErrIO || !r.d.Dead() {
-			t.Fatalf("P3: Open = %d", e)
-		}
-		return false
-	}
-	at := len(r.told) - 1
-	for r.crashed && at > r.durable && r.told[at] != told(n) {
-		at--
-	}
-	if r.told[at] != told(n) || n.State().ReadOnly {
-		t.Fatalf("P12: the node tells %s, behind %d writes, of which %d were durable: %q", told(n), len(r.told)-1, r.durable, r.told)
-	}
-	r.told, r.crashed = r.told[:at+1], false
-	return true
-}
-
-// do does a step; false, if the disk fails in it.
-func (r *trial) do(t *testing.T, s step) bool {
-	t.Helper()
-	before, refused := told(r.n), r.d.Refused()
-	seq, e := s.do(r.n)
-	after := told(r.n)
-	if s.numbered() {
-		r.numbers.number(t, seq, e)
-	}
-	r.numbers.shown(r.n)
-	if (e == api.ErrIO) != (r.d.Refused() > refused) || (e == api.ErrIO) != r.n.State().ReadOnly {
-		t.Fatalf("P11: %s = %d, State() = %+v", s.call, e, r.n.State())
-	}
-	switch {
-	case e == api.OK && s.call == "Sync":
-		r.durable = len(r.told) - 1
-	case e == api.OK && s.wrote(before, after):
-		r.told = append(r.told, after)
-		r.writes++
-		if r.every > 0 && r.writes%r.every == 0 {
-			r.durable = len(r.told) - 1
-		}
-	case after == before:
-	case e == api.ErrIO && s.call != "Sync":
-		r.told = append(r.told, after)
-	default:
-		t.Fatalf("P11: %s = %d changes %s into %s", s.call, e, before, after)
-	}
-	return e != api.ErrIO
-}
-
-// anyStep: a step that is often a write; its values are others each time.
-func anyStep(r *rand.Rand, i int) step {
-	key := string(rune('a' + r.Intn(4)))
-	value := strconv.Itoa(i)
-	if r.Intn(3) == 0 {
-		value += "                                                                                        "
-	}
-	switch r.Intn(12) {
-	case 0, 1, 2:
-		return putting(key, value)
-	case 3:
-		return deleting(key)
-	case 4, 5, 6:
-		var over [api.Nodes]int
-		over[r.Intn(4)] = r.Intn(200)
-		return accepting(key, version([]int{0, 2, 3}[r.Intn(3)], 1+r.Intn(200), over, value))
-	case 7:
-		return accepting(key, gone(2, 1+r.Intn(200), [api.Nodes]int{r.Intn(200), r.Intn(200), r.Intn(200), 0}))
-	case 8, 9:
-		return hinting(2, value)
-	case 10:
-		return acking()
-	}
-	return syncing()
-}
-
-// Crashes one behind the other, cut or not, with failures and Opens between: each node holds the first so many writes of the one ahead of it, and all that are durable.
-func TestManyCrashes(t *testing.T) {
-	for seed := range 600 {
-		r := rand.New(rand.NewSource(int64(seed)))
-		run := trial{d: disk.New(plenty), told: []string{told(open(t, disk.New(1)))}}
-		long := 1 + r.Intn(60)
-		for range 12 {
-			switch r.Intn(4) {
-			case 0:
-				run.d.Fail(1+r.Intn(2*long), r.Intn(300))
-			case 1, 2:
-				run.d.Cut(1 + r.Intn(2*long))
-			}
-			good := run.open(t, api.Config{Node: self, Segment: 1000 + 300*r.Intn(3), Sync: max(0, r.Intn(12)-4)})
-			for i := 0; good && i < long; i++ {
-				good = run.do(t, anyStep(r, i))
-			}
-			run.d.Fail(0, 0)
-			if run.d.Dead() || r.Intn(3) == 0 {
-				run.d.Crash(r.Intn(6), []int{r.Intn(1200), r.Intn(1200), r.Intn(1200), r.Intn(1200), r.Intn(1200), r.Intn(1200)})
-				run.crashed = true
-			}
-			run.d.Cut(0)
-		}
 	}
 }
 

@@ -145,7 +145,12 @@ func (n *Node) Sync() api.Errno {
 }
 
 // Merge does a step towards less room (P10).
-func (n *Node) Merge() (bool, api.Errno) { return false, api.OK }
+func (n *Node) Merge() (bool, api.Errno) {
+	if n.readOnly {
+		return false, api.ErrReadOnly
+	}
+	return false, api.OK
+}
 
 // State tells how the node is (P11).
 func (n *Node) State() api.State {
