@@ -17,12 +17,14 @@ const limit = 100
 
 func rec(text string) string { return record.Make(record.Text(text)) }
 
+func readText(s *record.Source) string { return record.ReadText[string](s) }
+
 // reopen reads a disk's log.
 func reopen(t *testing.T, d *disk.Disk) (*Journal, []string) {
 	t.Helper()
 	var got []string
 	calls := d.Calls()
-	j, err := Open(d, limit, record.ReadText[string], func(s string) { got = append(got, s) })
+	j, err := Open(d, limit, readText, func(s string) { got = append(got, s) })
 	if err != nil || d.Calls() != calls {
 		t.Fatalf("Open: %v, and %d calls that change something", err, d.Calls()-calls)
 	}
@@ -70,15 +72,25 @@ func TestSegments(t *testing.T) {
 }
 
 func TestNames(t *testing.T) {
-	for _, n := range []int{1, 9, 10, 123456} {
-		if got := numberOf(nameOf(n)); got != n {
-			t.Errorf("the number of %s is %d", nameOf(n), got)
+	for _, kind := range []string{segment, base} {
+		for _, n := range []int{1, 9, 10, 123456} {
+			if got := numberOf(kind, nameOf(kind, n)); got != n {
+				t.Errorf("the number of %s is %d", nameOf(kind, n), got)
+			}
+		}
+		for _, rest := range []string{"", "0", "-1", "+1", "01", "1x", " 1", kind + "1", "99999999999999999999"} {
+			if got := numberOf(kind, kind+rest); got != 0 {
+				t.Errorf("the number of %q is %d", kind+rest, got)
+			}
+		}
+		for _, name := range []string{"", "1", "new", "new1"} {
+			if got := numberOf(kind, name); got != 0 {
+				t.Errorf("the number of %q is %d", name, got)
+			}
 		}
 	}
-	for _, name := range []string{"", "log", "log0", "log-1", "log+1", "log01", "1", "new1", "log1x", "loglog1", "log99999999999999999999"} {
-		if got := numberOf(name); got != 0 {
-			t.Errorf("the number of %q is %d", name, got)
-		}
+	if numberOf(segment, nameOf(base, 1)) != 0 || numberOf(base, nameOf(segment, 1)) != 0 {
+		t.Error("a segment is taken for a base, or a base for a segment")
 	}
 }
 

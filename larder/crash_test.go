@@ -31,7 +31,7 @@ func unsafe(d *disk.Disk, dirs int) (string, []int) {
 // eachCrash calls check with a copy of the disk behind each crash that is possible: each first part of what was done to the directory, and of each file each first part of what is not safe (but strides of it) with nothing and with all of the other files.
 func eachCrash(d *disk.Disk, stride int, check func(c *disk.Disk)) {
 	var seen []string
-	for dirs := range 8 {
+	for dirs := range 24 {
 		what, more := unsafe(d, dirs)
 		if slices.Contains(seen, what) {
 			continue
@@ -43,14 +43,17 @@ func eachCrash(d *disk.Disk, stride int, check func(c *disk.Disk)) {
 			check(c)
 		}
 		crash(nil)
-		crash(more)
-		for i, most := range more {
+		most := slices.DeleteFunc(slices.Clone(more), func(m int) bool { return m == 0 })
+		if len(most) > 0 {
+			crash(more)
+		}
+		for i := range more {
 			none := make([]int, len(more))
 			all := slices.Clone(more)
-			for k := 1; k < most+stride; k += stride {
-				none[i], all[i] = min(k, most), most-min(k, most)
+			for k := 1; more[i] > 0 && k < more[i]+stride; k += stride {
+				none[i], all[i] = min(k, more[i]), more[i]-min(k, more[i])
 				crash(none)
-				if len(slices.DeleteFunc(slices.Clone(more), func(m int) bool { return m == 0 })) > 1 {
+				if len(most) > 1 {
 					crash(all)
 				}
 			}
@@ -145,19 +148,20 @@ func TestEachCrashOfManySegments(t *testing.T) {
 
 // Without a cut, the power may go at any time.
 func TestCrashBehindEachStep(t *testing.T) {
-	script := fewSteps()
-	want := history(t, script)
-	for _, every := range []int{0, 3} {
-		durable := durables(script, want, every)
-		for i := range len(script) + 1 {
-			d := disk.New(plenty)
-			done, numbers := play(t, openAs(t, d, 1000, every), d, script[:i])
-			eachCrash(d, 1, func(c *disk.Disk) { behind(t, c, want[durable[done]:done+1], numbers) })
+	for _, script := range [][]step{fewSteps(), woven(fewSteps())} {
+		want := history(t, script)
+		for _, every := range []int{0, 3} {
+			durable := durables(script, want, every)
+			for i := range len(script) + 1 {
+				d := disk.New(plenty)
+				done, numbers := play(t, openAs(t, d, 1000, every), d, script[:i])
+				eachCrash(d, 1, func(c *disk.Disk) { behind(t, c, want[durable[done]:done+1], numbers) })
+			}
 		}
 	}
 }
 
-// The power is cut within Open, if Open makes a call that changes something; nothing that was durable is lost, and what was there once is not there again.
+// The power is cut within Open, if Open makes a call that changes something (behind a merge it may: merge_crash_test.go); nothing that was durable is lost, and what was there once is not there again.
 func TestOpenIsCut(t *testing.T) {
 	script := steps()
 	want := history(t, script)

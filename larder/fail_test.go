@@ -117,8 +117,12 @@ func TestCrashBehindEachFailure(t *testing.T) {
 func TestCutAndFailure(t *testing.T) {
 	for _, part := range []int{0, 3} {
 		eachTry(t, func(t *testing.T, c scene, s step, before, whole string) {
-			for cut := range 6 {
-				for fail := range 6 {
+			calls := 6
+			if s.call == "Merge" {
+				calls = 10
+			}
+			for cut := range calls {
+				for fail := range calls {
 					r := c.make(t)
 					r.d.Cut(cut)
 					r.d.Fail(fail, part)
@@ -129,7 +133,7 @@ func TestCutAndFailure(t *testing.T) {
 					if r.open(t, api.Config{Node: self, Segment: api.MinSegment}) && !r.d.Dead() && r.do(t, hinting(0, "next")) {
 						r.do(t, syncing())
 					}
-					eachCrash(r.d, 57, func(d *disk.Disk) { behind(t, d, r.may(), r.numbers) })
+					eachCrash(r.d, 97, func(d *disk.Disk) { behind(t, d, r.may(), r.numbers) })
 				}
 			}
 		})
@@ -158,7 +162,7 @@ func TestFailureBehindFailure(t *testing.T) {
 // Open is answered as the disk answers it, and what lies on the disk stays, though a call of the disk fails in it or its power is cut.
 func TestOpenOnADiskThatFails(t *testing.T) {
 	for _, c := range scenes(t) {
-		for k := 1; k < 5; k++ {
+		for k := 1; k < 8; k++ {
 			for part := range 9 {
 				r := c.make(t)
 				r.d.Fail(k, part)
@@ -173,52 +177,69 @@ func TestOpenOnADiskThatFails(t *testing.T) {
 	}
 }
 
-// A long script of calls of all kinds, in which each call of the disk fails in turn.
+// scripts: long ones, of calls of all kinds.
+func scripts() [][]step { return [][]step{steps(), woven(steps())} }
+
+// Each call of the disk in a long script fails in turn.
 func TestEachCallOfManyFails(t *testing.T) {
-	want := history(t, steps())
-	for every, part := range []int{0, 1, 7, 1000003} {
-		for k := 1; stopsAt(t, func(d *disk.Disk) { d.Fail(k, part) }, plenty, every, want); k++ {
+	for _, script := range scripts() {
+		want := history(t, script)
+		for every, part := range []int{0, 1, 7, 1000003} {
+			for k := 1; stopsAt(t, func(d *disk.Disk) { d.Fail(k, part) }, plenty, every, script, want); k++ {
+			}
 		}
 	}
 }
 
 func TestEachCallOfManyIsCut(t *testing.T) {
-	want := history(t, steps())
-	for every := range 3 {
-		for k := 1; stopsAt(t, func(d *disk.Disk) { d.Cut(k) }, plenty, every, want); k++ {
+	for _, script := range scripts() {
+		want := history(t, script)
+		for every := range 3 {
+			for k := 1; stopsAt(t, func(d *disk.Disk) { d.Cut(k) }, plenty, every, script, want); k++ {
+			}
 		}
 	}
 }
 
-// stopsAt does the steps on a disk with so much room, which is to fail, and checks the node behind the failure; false, if nothing fails.
-func stopsAt(t *testing.T, spoil func(d *disk.Disk), room, every int, want []string) bool {
+// stopsAt does the script on a disk with so much room, which is to fail, and checks the node behind the failure; false, if nothing fails.
+func stopsAt(t *testing.T, spoil func(d *disk.Disk), room, every int, script []step, want []string) bool {
 	t.Helper()
 	d := disk.New(room)
 	spoil(d)
 	n := openAs(t, d, api.MinSegment, every)
-	i, _ := play(t, n, d, steps())
+	i, _ := play(t, n, d, script)
 	after := told(n)
-	if i == len(steps()) {
+	if i == len(script) {
 		if after != want[i] || n.State().ReadOnly {
 			t.Fatalf("P11: on a good disk the node tells %s, want %s", after, want[i])
 		}
 		return false
 	}
 	if after != want[i] && after != want[i+1] {
-		t.Fatalf("P11: behind step %d, %s, the node tells %s, want %s or %s", i, steps()[i].call, after, want[i], want[i+1])
+		t.Fatalf("P11: behind step %d, %s, the node tells %s, want %s or %s", i, script[i].call, after, want[i], want[i+1])
 	}
 	d.Fail(0, 0)
 	onlyRead(t, d, n)
-	if m := open(t, d); told(m) != after || m.State().ReadOnly {
-		t.Fatalf("P12: the next node tells %s, the last one told %s", told(m), after)
+	refused := d.Refused()
+	m, e := larder.Open(d, api.Config{Node: self, Segment: api.MinSegment})
+	if d.Refused() > refused && d.Dead() {
+		if m != nil || e != api.ErrIO {
+			t.Fatalf("P3: Open while the power is cut = %v, %d", m, e)
+		}
+		return true
+	}
+	if m == nil || told(m) != after || m.State().ReadOnly {
+		t.Fatalf("P12: behind step %d, %s, the last node told %s, and the next Open is answered %d", i, script[i].call, after, e)
 	}
 	return true
 }
 
 func TestNoFailure(t *testing.T) {
 	for _, every := range []int{0, 1, 3} {
-		if stopsAt(t, func(d *disk.Disk) {}, plenty, every, history(t, steps())) {
-			t.Error("P11: a step fails on a good disk")
+		for _, script := range scripts() {
+			if stopsAt(t, func(d *disk.Disk) {}, plenty, every, script, history(t, script)) {
+				t.Error("P11: a step fails on a good disk")
+			}
 		}
 	}
 }

@@ -16,7 +16,7 @@ func TestEachRoom(t *testing.T) {
 	want := history(t, script)
 	for room := range api.Need + 500 {
 		every := room % 4
-		if !stopsAt(t, func(*disk.Disk) {}, room, every, want) {
+		if !stopsAt(t, func(*disk.Disk) {}, room, every, script, want) {
 			t.Fatalf("P11: a disk with room for %d bytes takes everything", room)
 		}
 		d := disk.New(room)
@@ -33,8 +33,10 @@ func TestEachRoom(t *testing.T) {
 
 // More room, till all is taken.
 func TestGreaterRooms(t *testing.T) {
-	want := history(t, steps())
-	for room := api.Need; stopsAt(t, func(*disk.Disk) {}, room, room%3, want); room += 31 {
+	for _, script := range scripts() {
+		want := history(t, script)
+		for room := 1; stopsAt(t, func(*disk.Disk) {}, room, room%3, script, want); room += 31 {
+		}
 	}
 }
 

@@ -2,7 +2,6 @@ package larder_test
 
 import (
 	"strconv"
-	"strings"
 	"testing"
 
 	"larder/api"
@@ -81,27 +80,35 @@ func is(t *testing.T, n *larder.Node, key string, want ...api.Version) {
 
 // told: all that a node holds, as a text.
 func told(n *larder.Node) string {
-	var b strings.Builder
+	var b []byte
 	number := func(l ...int) {
 		for _, i := range l {
-			b.WriteString(strconv.Itoa(i) + " ")
+			b = append(strconv.AppendInt(b, int64(i), 10), ' ')
 		}
 	}
+	text := func(s string) { // two lists of texts must not look alike
+		number(len(s))
+		b = append(append(b, s...), ' ')
+	}
 	for _, k := range n.Keys() {
-		b.WriteString(strconv.Quote(k) + ": ")
+		text(k)
 		l, _ := n.Get(k)
+		number(len(l))
 		for _, v := range l {
 			number(v.Dot.Node, v.Dot.Seq)
 			number(v.Over[:]...)
-			b.WriteString(strconv.Quote(v.Value) + strconv.FormatBool(v.Gone) + " ")
+			text(v.Value)
+			b = append(strconv.AppendBool(b, v.Gone), ' ')
 		}
 	}
 	for _, h := range n.Hints() {
-		b.WriteString("hint " + strconv.Itoa(h.To) + " " + strconv.Quote(h.Text) + " ")
+		b = append(b, "hint "...)
+		number(h.To)
+		text(h.Text)
 	}
 	s := n.State()
 	number(s.Keys, s.Hints)
-	return b.String()
+	return string(b)
 }
 
 // fill gives a node four versions of the key k, one each of x and y, and hints.

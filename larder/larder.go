@@ -7,6 +7,7 @@ import (
 
 	"larder/api"
 	"larder/disk"
+	"larder/fault"
 	"larder/journal"
 	"larder/stock"
 )
@@ -16,9 +17,10 @@ type Node struct {
 	self     int // its number
 	log      *journal.Journal
 	held     *stock.Stock
-	given    int // the last of its numbers that was given, or may have been
-	every    int // after so many writes all is made safe; 0: by Sync alone
-	writes   int // since the last of these
+	given    int    // the last of its numbers that was given, or may have been
+	every    int    // after so many writes all is made safe; 0: by Sync alone
+	writes   int    // since the last of these
+	merge    *merge // the one that is under way; nil: none is
 	readOnly bool
 }
 
@@ -149,7 +151,8 @@ func (n *Node) Merge() (bool, api.Errno) {
 	if n.readOnly {
 		return false, api.ErrReadOnly
 	}
-	return false, api.OK
+	done, err := n.step()
+	return done, n.answer(fault.While("merging", err))
 }
 
 // State tells how the node is (P11).

@@ -10,7 +10,7 @@ import (
 // Behind a node's calls without a crash the next node holds what it told, whatever the Configs are.
 func TestOpenAgain(t *testing.T) {
 	d := disk.New(plenty)
-	script := steps()
+	script := twice()
 	want := history(t, script)
 	n := open(t, d)
 	for i, s := range script {
@@ -31,7 +31,7 @@ func TestOpenAheadOfEachStep(t *testing.T) {
 	d := disk.New(plenty)
 	before := told(open(t, d))
 	numbers := count{}
-	for i, s := range steps() {
+	for i, s := range twice() {
 		n := openAs(t, d, []int{1000, 1000000, 3000, 1001}[i%4], []int{0, 1, 100, 2, 7}[i%5])
 		numbers.calls++
 		if told(n) != before || n.State().ReadOnly {
@@ -52,7 +52,7 @@ func TestOpenAheadOfEachStep(t *testing.T) {
 func TestOpenOfTheSameFiles(t *testing.T) {
 	d := disk.New(plenty)
 	n := openAs(t, d, 1000, 3)
-	for i, s := range steps() {
+	for i, s := range twice() {
 		s.do(n)
 		same := disk.New(plenty)
 		names := d.List()
@@ -75,7 +75,7 @@ func TestOpenBehindFailures(t *testing.T) {
 		d := disk.New(plenty)
 		before := told(open(t, d))
 		numbers := count{}
-		for i, s := range steps() {
+		for i, s := range twice() {
 			n := openAs(t, d, 1000, part%3)
 			numbers.calls++
 			if told(n) != before || n.State().ReadOnly {

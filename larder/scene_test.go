@@ -93,6 +93,13 @@ func crashed(t *testing.T, tail int) *trial {
 	return someOn(t, 0).must(t, accepting("y", plain(0, 1, wide))).crash(9, tail).again(t, 0)
 }
 
+// allButMerged: the next call of Merge ends a merge.
+func allButMerged(t *testing.T, r *trial) *trial {
+	t.Helper()
+	state := r.n.State()
+	return r.must(t, repeated(merging(), state.Keys+state.Hints+2)...)
+}
+
 func scenes(t *testing.T) []scene {
 	t.Helper()
 	longest := toLimit(t)
@@ -110,6 +117,18 @@ func scenes(t *testing.T) []scene {
 		{"behind a failure that left a piece", func(t *testing.T) *trial { return failed(t, 7) }},
 		{"behind a crash that left a little", func(t *testing.T) *trial { return crashed(t, 1) }},
 		{"behind a crash that left more", func(t *testing.T) *trial { return crashed(t, 99) }},
+		{"a merge begun", func(t *testing.T) *trial { return someOn(t, 0).must(t, merging()) }},
+		{"a merge under way", func(t *testing.T) *trial { return someOn(t, 1).must(t, merging(), merging(), merging()) }},
+		{"a merge under way, and writes in it", func(t *testing.T) *trial {
+			return someOn(t, 0).must(t, merging(), merging(), hinting(0, "two"), accepting("y", plain(0, 1, wide)), merging(), putting("y", wide))
+		}},
+		{"a merge all but ended", func(t *testing.T) *trial { return allButMerged(t, someOn(t, 0)) }},
+		{"a merge of some segments all but ended", func(t *testing.T) *trial {
+			return allButMerged(t, someOn(t, 0).must(t, longest...).must(t, longest...).must(t, full(1, 2)...))
+		}},
+		{"behind a merge", func(t *testing.T) *trial { return allButMerged(t, someOn(t, 0)).must(t, merging()) }},
+		{"behind a merge and Open", func(t *testing.T) *trial { return allButMerged(t, someOn(t, 0)).must(t, merging()).again(t, 1) }},
+		{"a merge that is left", func(t *testing.T) *trial { return allButMerged(t, someOn(t, 0)).again(t, 0) }},
 		{"a crash behind a failure", func(t *testing.T) *trial { return failed(t, 100).crash(9, 50).again(t, 0) }},
 	}
 }
@@ -126,6 +145,7 @@ func tries() []step {
 		hinting(0, strings.Repeat("t", api.MaxText)),
 		acking(),
 		syncing(),
+		merging(),
 	}
 }
 

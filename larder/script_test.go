@@ -10,7 +10,7 @@ import (
 	"larder/larder"
 )
 
-// step is a call that may write: its name, and what it answers; the number is 0, if it is neither Put nor Delete.
+// step is a call that may write: its name, and what it answers; the number is 0, if it is neither Put nor Delete, but 1, if it is the last of a merge.
 type step struct {
 	call string
 	do   func(n *larder.Node) (int, api.Errno)
@@ -40,12 +40,49 @@ func syncing() step {
 	return step{"Sync", func(n *larder.Node) (int, api.Errno) { return 0, n.Sync() }}
 }
 
+func merging() step {
+	return step{"Merge", func(n *larder.Node) (int, api.Errno) {
+		done, e := n.Merge()
+		if done {
+			return 1, e
+		}
+		return 0, e
+	}}
+}
+
+// woven: the steps, with one of a merge behind each.
+func woven(l []step) []step {
+	var out []step
+	for _, s := range l {
+		out = append(out, s, merging())
+	}
+	return out
+}
+
+// twice: the steps, and once more with steps of merges between.
+func twice() []step {
+	out := append(steps(), repeated(acking(), 26)...)
+	return append(out, woven(steps())...)
+}
+
+// repeated: the step, so many times.
+func repeated(s step, times int) []step {
+	var out []step
+	for range times {
+		out = append(out, s)
+	}
+	return out
+}
+
 // numbered: is the call one that answers a number?
 func (s step) numbered() bool { return s.call == "Put" || s.call == "Delete" }
 
+// mayWrite: is the call one that may be a write as P9 says?
+func (s step) mayWrite() bool { return s.call != "Sync" && s.call != "Merge" }
+
 // wrote: was the call, which was answered OK, a write as P9 says? An Accept is one only if it changed something.
 func (s step) wrote(before, after string) bool {
-	return s.call != "Sync" && (s.call != "Accept" || before != after)
+	return s.mayWrite() && (s.call != "Accept" || before != after)
 }
 
 // steps: calls of all kinds that write, more than a few segments' worth.

@@ -32,7 +32,7 @@ func TestSyncBehindEachStep(t *testing.T) {
 		d := disk.New(plenty)
 		n := openAs(t, d, segment, 0)
 		sync(t, n, api.OK)
-		for i, s := range steps() {
+		for i, s := range twice() {
 			if _, e := s.do(n); e != api.OK {
 				t.Fatalf("step %d, %s = %d", i, s.call, e)
 			}
@@ -51,7 +51,7 @@ func TestSyncBehindOpen(t *testing.T) {
 	for segment := 1000; segment < 3000; segment += 100 {
 		d := disk.New(plenty)
 		n := openAs(t, d, segment, 0)
-		for i, s := range steps() {
+		for i, s := range twice() {
 			if s.call == "Sync" {
 				continue
 			}

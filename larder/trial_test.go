@@ -35,7 +35,7 @@ func attempt(t *testing.T, d *disk.Disk, n *larder.Node, s step) (int, api.Errno
 		t.Fatalf("P11: %s = %d, and the disk answered %d", s.call, e, is)
 	}
 	if n.State().ReadOnly != isFailure(e) || e != api.OK && seq != 0 {
-		t.Fatalf("P11: %s = %d, %d, State() = %+v", s.call, seq, e, n.State())
+		t.Fatalf("P1, P11: %s = %d, %d, State() = %+v", s.call, seq, e, n.State())
 	}
 	return seq, e
 }
@@ -50,6 +50,7 @@ type trial struct {
 	writes  int // since Open
 	crashed bool
 	numbers count
+	merge   course
 }
 
 // trialOf: a trial on an empty disk, without a node.
@@ -64,7 +65,7 @@ func (r *trial) open(t *testing.T, c api.Config) bool {
 	refused, fulls := r.d.Refused(), r.d.Fulls()
 	n, e := larder.Open(r.d, c)
 	r.numbers.calls++
-	r.n, r.every, r.writes = n, c.Sync, 0
+	r.n, r.every, r.writes, r.merge = n, c.Sync, 0, course{}
 	is := answered(r.d, refused, fulls)
 	if e != is || (n == nil) != (is != api.OK) {
 		t.Fatalf("P3: Open = %v, %d, and the disk answered %d", n, e, is)
@@ -93,6 +94,7 @@ func (r *trial) do(t *testing.T, s step) bool {
 		r.numbers.number(t, seq, e)
 	}
 	r.numbers.shown(r.n)
+	r.merge.follow(t, r.d, r.n, s, seq == 1, e)
 	switch {
 	case e == api.OK && s.call == "Sync":
 		r.durable = len(r.told) - 1
@@ -103,7 +105,7 @@ func (r *trial) do(t *testing.T, s step) bool {
 			r.durable = len(r.told) - 1
 		}
 	case after == before:
-	case isFailure(e) && s.call != "Sync":
+	case isFailure(e) && s.mayWrite():
 		r.told = append(r.told, after)
 	default:
 		t.Fatalf("P11: %s = %d changes %s into %s", s.call, e, before, after)
@@ -148,7 +150,7 @@ func anyStep(r *rand.Rand, i int) step {
 	if r.Intn(3) == 0 {
 		value += strings.Repeat(" ", 88)
 	}
-	switch r.Intn(12) {
+	switch r.Intn(16) {
 	case 0, 1, 2:
 		return putting(key, value)
 	case 3:
@@ -163,8 +165,10 @@ func anyStep(r *rand.Rand, i int) step {
 		return hinting(2, value)
 	case 10:
 		return acking()
+	case 11:
+		return syncing()
 	}
-	return syncing()
+	return merging()
 }
 
 // rounds opens the node again and again on one disk, and does steps, with failures and cuts at calls of the disk and crashes between.
@@ -186,7 +190,11 @@ func rounds(t *testing.T, r *rand.Rand, d *disk.Disk) {
 		}
 		d.Fail(0, 0)
 		if d.Dead() || r.Intn(3) == 0 {
-			run.crash(r.Intn(6), r.Intn(1200), r.Intn(1200), r.Intn(1200), r.Intn(1200), r.Intn(1200), r.Intn(1200))
+			var tails []int
+			for range 12 {
+				tails = append(tails, r.Intn(1200))
+			}
+			run.crash(r.Intn(12), tails...)
 		}
 		d.Cut(0)
 	}

@@ -68,7 +68,7 @@ func (n *Node) answer(err error) api.Errno {
 	if err == nil {
 		return api.OK
 	}
-	n.readOnly = true
+	n.readOnly, n.merge = true, nil
 	return errno(err)
 }
 

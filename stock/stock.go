@@ -18,6 +18,18 @@ type Stock struct {
 // Take makes what a record says so.
 func (s *Stock) Take(f Fact) { f.enter(s) }
 
+// Facts tells what makes an empty Stock hold the same: the lease first.
+func (s *Stock) Facts() []Fact {
+	out := []Fact{Lease{Upto: s.leased}}
+	for key, versions := range s.keys.All() {
+		out = append(out, Holds{Key: key, Versions: versions})
+	}
+	for _, h := range s.hints {
+		out = append(out, Queued{Hint: h})
+	}
+	return out
+}
+
 // Leased tells up to which number the node's numbers are used up, whether or not they were given.
 func (s *Stock) Leased() int { return s.leased }
 

@@ -60,6 +60,34 @@ func TestTake(t *testing.T) {
 	}
 }
 
+// What the Facts say is what was held; and they stay as they are when more is taken.
+func TestFacts(t *testing.T) {
+	var s Stock
+	if got := s.Facts(); !reflect.DeepEqual(got, []Fact{Lease{}}) {
+		t.Errorf("the Facts of nothing are %+v", got)
+	}
+	a, b := []api.Version{version4(0, 1, [4]int{}, "v")}, []api.Version{version4(2, 1, [4]int{}, "w"), version4(2, 2, [4]int{}, "")}
+	x, y, z := api.Hint{To: 0, Text: "x"}, api.Hint{To: 2, Text: "y"}, api.Hint{To: 0, Text: "z"}
+	for _, f := range []Fact{Lease{16}, Holds{"b", b}, Holds{"c", a}, Holds{"a", a}, Holds{"c", nil}, Queued{x}, Queued{y}, Queued{z}, Acked{}} {
+		s.Take(f)
+	}
+	want := []Fact{Lease{16}, Holds{"a", a}, Holds{"b", b}, Queued{y}, Queued{z}}
+	facts := s.Facts()
+	for _, f := range []Fact{Acked{}, Queued{x}, Acked{}, Holds{"a", b}, Holds{"b", nil}, Lease{32}} {
+		s.Take(f)
+	}
+	if !reflect.DeepEqual(facts, want) {
+		t.Errorf("the Facts are %+v, want %+v", facts, want)
+	}
+	var again Stock
+	for _, f := range facts {
+		again.Take(f)
+	}
+	if !reflect.DeepEqual(again.Facts(), want) {
+		t.Errorf("the Facts of the Facts are %+v", again.Facts())
+	}
+}
+
 func TestVersions(t *testing.T) {
 	a, b, c := version4(0, 9, [4]int{0, 0, 3, 0}, "a"), version4(2, 9, [4]int{}, "b"), version4(2, 10, [4]int{}, "c")
 	l := With(With(With(nil, c), a), b)
